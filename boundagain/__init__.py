@@ -1,0 +1,1 @@
+"""boundagain: loose leaves put back into the books that agree with what was seen of them."""

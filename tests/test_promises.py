@@ -1,0 +1,74 @@
+"""D1, D4 and D6 as far as they show in first and after."""
+import unittest
+
+import oracle
+from boundagain.books import after, first
+from test_books_that_agree import chain
+
+
+class D1(unittest.TestCase):
+    def test_all_that_agree_each_once_in_order(self):
+        for n in (1, 2, 3, 4):
+            for findings in oracle.drawn_texts(200 + n, n, 4, 12):
+                found = chain(oracle.text_of(n, findings))
+                self.assertEqual(found, sorted(set(found)))
+                self.assertEqual(set(found), set(oracle.agreeing(n, findings)))
+
+    def test_a_book_is_the_first_behind_all_before_it(self):
+        for findings in oracle.drawn_texts(210, 3, 3, 10):
+            t = oracle.text_of(3, findings)
+            found = chain(t)
+            for book, later in zip(found, found[1:]):
+                self.assertEqual(after(t, oracle.to_bytes(book)), oracle.answer(later))
+
+
+class D4(unittest.TestCase):
+    def test_with_a_finding_more_no_more_books(self):
+        for n, times in ((1, 10), (2, 40), (3, 40), (4, 6)):
+            for findings in oracle.drawn_texts(300 + n, n, 5, times):
+                before = set(oracle.all_books(n))
+                for k in range(len(findings) + 1):
+                    found = set(chain(oracle.text_of(n, findings[:k])))
+                    self.assertLessEqual(found, before, findings[:k])
+                    before = found
+
+    def test_a_finding_and_the_one_with_not_share_out_the_books(self):
+        for n in (1, 2, 3):
+            for finding in oracle.all_findings(n)[::3]:
+                if not finding.startswith("! "):
+                    found = chain(oracle.text_of(n, [finding]))
+                    others = chain(oracle.text_of(n, ["! " + finding]))
+                    self.assertEqual(sorted(found + others), list(oracle.all_books(n)), finding)
+
+    def test_the_order_of_findings_is_of_no_weight(self):
+        for findings in oracle.drawn_texts(310, 3, 5, 30):
+            self.assertEqual(chain(oracle.text_of(3, findings)), chain(oracle.text_of(3, findings[::-1])))
+
+
+class D6(unittest.TestCase):
+    def check(self, n, findings):
+        found = chain(oracle.text_of(n, findings))
+        turned = chain(oracle.text_of(n, [oracle.turned_finding(finding) for finding in findings]))
+        self.assertEqual(turned, sorted(oracle.turned_book(book) for book in found), findings)
+
+    def test_each_finding(self):
+        for n in (1, 2, 3):
+            for finding in oracle.all_findings(n):
+                self.check(n, [finding])
+
+    def test_several_findings(self):
+        for n, times in ((1, 10), (2, 40), (3, 60), (4, 10)):
+            for findings in oracle.drawn_texts(400 + n, n, 4, times):
+                self.check(n, findings)
+
+    def test_a_turned_book_is_the_one_behind_some_book(self):
+        t = oracle.text_of(2, [])
+        books = list(oracle.all_books(2))
+        for before, book in zip(books, books[1:]):
+            self.assertIn(oracle.turned_book(book), books)
+            self.assertEqual(after(t, oracle.to_bytes(before)), oracle.answer(book))
+        self.assertEqual(first(t), oracle.answer(books[0]))
+
+
+if __name__ == "__main__":
+    unittest.main()
