@@ -123,10 +123,30 @@ def holds(finding, look):
     raise ValueError(finding)
 
 
+@functools.lru_cache(maxsize=None)
+def holding(n, finding):
+    """The books of n leaves that it holds of, as bits: bit k stands for number k of all books."""
+    if finding.startswith("! "):
+        return holding(n, finding[2:]) ^ every_book(n)
+    bits = ["1" if holds(finding, look_at(book)) else "0" for book in all_books(n)]
+    return int("".join(reversed(bits)), 2)
+
+
+def every_book(n):
+    return (1 << len(all_books(n))) - 1
+
+
+def bits_of_agreeing(n, findings):
+    bits = every_book(n)
+    for finding in findings:
+        bits &= holding(n, finding)
+    return bits
+
+
 def agreeing(n, findings):
     """The texts of all books of n leaves that agree, in order."""
-    return [book for book in all_books(n)
-            if all(holds(finding, look_at(book)) for finding in findings)]
+    bits = bin(bits_of_agreeing(n, findings))[2:]
+    return [book for book, bit in zip(all_books(n), reversed(bits)) if bit == "1"]
 
 
 def text_of(n, findings):

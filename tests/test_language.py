@@ -17,14 +17,34 @@ METHODS = set("""append clear copy count endswith extend find get index insert i
 WORDS = set("""type typing typing_extensions enum Enum IntEnum StrEnum Flag IntFlag Generic Protocol ABC ABCMeta
     namedtuple NamedTuple TypedDict TYPE_CHECKING abstractmethod""".split())
 NODES = (
-    ast.Module, ast.FunctionDef, ast.arguments, ast.arg, ast.Assign, ast.If, ast.While, ast.For, ast.Return, ast.Break,
-    ast.Continue, ast.Pass, ast.Expr, ast.Constant, ast.Name, ast.List, ast.Tuple, ast.Dict, ast.BinOp, ast.UnaryOp,
-    ast.BoolOp, ast.Compare, ast.IfExp, ast.Call, ast.Attribute, ast.Subscript, ast.Slice, ast.ListComp,
-    ast.comprehension, ast.Load, ast.Store, ast.operator, ast.unaryop, ast.boolop, ast.cmpop)
+    ast.Module, ast.ImportFrom, ast.alias, ast.FunctionDef, ast.arguments, ast.arg, ast.Assign, ast.If, ast.While,
+    ast.For, ast.Return, ast.Break, ast.Continue, ast.Pass, ast.Expr, ast.Constant, ast.Name, ast.List, ast.Tuple,
+    ast.Dict, ast.BinOp, ast.UnaryOp, ast.BoolOp, ast.Compare, ast.IfExp, ast.Call, ast.Attribute, ast.Subscript,
+    ast.Slice, ast.ListComp, ast.comprehension, ast.Load, ast.Store, ast.operator, ast.unaryop, ast.boolop, ast.cmpop)
 
 
 def walk(path, *kinds):
     return [node for node in ast.walk(ast.parse(path.read_text())) if isinstance(node, kinds)]
+
+
+def drawn_files(path):
+    """The package's own files that this one draws from."""
+    return [PACKAGE / (node.module.split(".")[1] + ".py") for node in walk(path, ast.ImportFrom)]
+
+
+def drawn_names(path):
+    return [name.name for node in walk(path, ast.ImportFrom) for name in node.names]
+
+
+def top_names(path):
+    """What a file defines itself."""
+    names = []
+    for node in ast.parse(path.read_text()).body:
+        if isinstance(node, ast.Assign):
+            names.append(node.targets[0].id)
+        if isinstance(node, ast.FunctionDef):
+            names.append(node.name)
+    return names
 
 
 class Language(unittest.TestCase):
@@ -73,14 +93,15 @@ class Language(unittest.TestCase):
 
     def test_tops(self):
         for path in FILES:
-            names = []
+            behind = False
             for node in ast.parse(path.read_text()).body:
-                self.assertIsInstance(node, (ast.Expr, ast.FunctionDef, ast.Assign))
+                self.assertIsInstance(node, (ast.Expr, ast.ImportFrom, ast.FunctionDef, ast.Assign))
                 if isinstance(node, ast.Assign):
                     self.assertIsInstance(node.value, ast.Constant)
-                    names.append(node.targets[0].id)
-                if isinstance(node, ast.FunctionDef):
-                    names.append(node.name)
+                if isinstance(node, (ast.FunctionDef, ast.Assign)):
+                    behind = True
+                self.assertFalse(behind and isinstance(node, ast.ImportFrom), path.name)
+            names = top_names(path) + drawn_names(path)
             self.assertEqual(len(names), len(set(names)))
 
     def test_functions(self):
@@ -95,11 +116,13 @@ class Language(unittest.TestCase):
             tops = {node.name for node in walk(path, ast.FunctionDef)}
             bound = {node.id for node in walk(path, ast.Name) if isinstance(node.ctx, ast.Store)}
             bound |= {node.arg for node in walk(path, ast.arg)}
+            drawn = set(drawn_names(path))
             for name in tops | bound:
                 self.assertRegex(name, r"\A[A-Za-z]\w*\Z")
                 self.assertFalse(hasattr(builtins, name), name)
+                self.assertNotIn(name, drawn)
             for node in walk(path, ast.Name):
-                self.assertIn(node.id, tops | bound | BUILT_INS)
+                self.assertIn(node.id, tops | bound | drawn | BUILT_INS)
 
     def test_methods_are_called_where_they_stand(self):
         for path in FILES:
@@ -108,9 +131,34 @@ class Language(unittest.TestCase):
                 self.assertIn(node.attr, METHODS)
                 self.assertIn(ast.dump(node), [ast.dump(func) for func in called])
 
-    def test_nothing_is_imported(self):
-        for node, place in self.each(ast.Import, ast.ImportFrom):
+    def test_imports_are_from_the_file_that_defines_the_name(self):
+        for node, place in self.each(ast.Import):
             self.fail(place)
+        for path in FILES:
+            for node in walk(path, ast.ImportFrom):
+                place = f"{path.name} line {node.lineno}"
+                self.assertRegex(node.module, r"\Aboundagain\.[a-z][a-z0-9_]*\Z", place)
+                self.assertEqual(node.level, 0, place)
+                defined = top_names(PACKAGE / (node.module.split(".")[1] + ".py"))
+                for name in node.names:
+                    self.assertIsNone(name.asname, place)
+                    self.assertIn(name.name, defined, place)
+
+    def test_what_is_drawn_is_used(self):
+        for path in FILES:
+            used = {node.id for node in walk(path, ast.Name)}
+            self.assertLessEqual(set(drawn_names(path)), used, path.name)
+
+    def test_no_two_files_draw_from_one_another(self):
+        for path in FILES:
+            reached = []
+            waiting = drawn_files(path)
+            while waiting:
+                other = waiting.pop()
+                if other not in reached:
+                    reached.append(other)
+                    waiting += drawn_files(other)
+            self.assertNotIn(path, reached)
 
 
 if __name__ == "__main__":

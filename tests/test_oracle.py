@@ -37,6 +37,13 @@ class TheListOfBooks(unittest.TestCase):
             self.assertFalse(oracle.holds(finding, look), finding)
             self.assertTrue(oracle.holds("! " + finding, look), finding)
 
+    def test_agreeing_as_each_book_is_asked(self):
+        for n, times in ((1, 30), (2, 60), (3, 60), (4, 3)):
+            for findings in oracle.drawn_texts(n, n, 4, times):
+                asked = [book for book in oracle.all_books(n)
+                         if all(oracle.holds(finding, oracle.look_at(book)) for finding in findings)]
+                self.assertEqual(oracle.agreeing(n, findings), asked, findings)
+
     def test_turning_twice_changes_nothing(self):
         for n in (1, 2, 3):
             for book in oracle.all_books(n):

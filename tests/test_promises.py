@@ -1,8 +1,8 @@
-"""D1, D4 and D6 as far as they show in first and after."""
+"""D1, D4 and D6 as far as they show in first, after, nth and rank."""
 import unittest
 
 import oracle
-from boundagain.books import after, first
+from boundagain.books import after, first, nth, rank
 from test_books_that_agree import chain
 
 
@@ -21,6 +21,15 @@ class D1(unittest.TestCase):
             for book, later in zip(found, found[1:]):
                 self.assertEqual(after(t, oracle.to_bytes(book)), oracle.answer(later))
 
+    def test_numbers_tell_all_that_agree_each_once(self):
+        for n, times in ((1, 8), (2, 12), (3, 8)):
+            for findings in oracle.drawn_texts(220 + n, n, 4, times):
+                t = oracle.text_of(n, findings)
+                found = chain(t)
+                self.assertEqual([nth(k, t) for k in range(len(found) + 1)],
+                                 [oracle.answer(book) for book in found] + [[-4]])
+                self.assertEqual([rank(t, oracle.to_bytes(book)) for book in found], [[k] for k in range(len(found))])
+
 
 class D4(unittest.TestCase):
     def test_with_a_finding_more_no_more_books(self):
@@ -31,6 +40,13 @@ class D4(unittest.TestCase):
                     found = set(chain(oracle.text_of(n, findings[:k])))
                     self.assertLessEqual(found, before, findings[:k])
                     before = found
+
+    def test_with_a_finding_more_no_more_come_before_a_book(self):
+        for n, times in ((1, 10), (2, 20), (3, 20), (4, 5)):
+            for findings in oracle.drawn_texts(320 + n, n, 4, times):
+                for u in oracle.all_books(n)[::len(oracle.all_books(n)) // 2]:
+                    before = [rank(oracle.text_of(n, findings[:k]), oracle.to_bytes(u)) for k in range(len(findings) + 1)]
+                    self.assertEqual(before, sorted(before, reverse=True), findings)
 
     def test_a_finding_and_the_one_with_not_share_out_the_books(self):
         for n in (1, 2, 3):
