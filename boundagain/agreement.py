@@ -159,6 +159,11 @@ def read_finding(n, line):
     return (plain, told[0], told[1])
 
 
+def opposite(finding):
+    """The finding that holds just where this one doesn't."""
+    return (not finding[0], finding[1], finding[2])
+
+
 def read_findings(t):
     """How many leaves there are and the list of findings, or None if t is no text of findings."""
     lines = split_at(t, LINE_FEED)

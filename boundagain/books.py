@@ -3,7 +3,7 @@
 What a side, a book and a finding are here, boundagain/agreement.py tells.
 """
 from boundagain.agreement import ALONE, CLOSES, MOST_BYTES, OPENS
-from boundagain.agreement import agrees, book_text, read_findings
+from boundagain.agreement import agrees, book_text, opposite, read_finding, read_findings
 
 
 def free_fronts(n, book):
@@ -94,6 +94,11 @@ def take_agreeing(n, findings, waiting):
     return []
 
 
+def some_agrees(n, findings):
+    """Whether any book of n leaves agrees."""
+    return take_agreeing(n, findings, [[]]) != []
+
+
 def told_book(book):
     text = book_text(book)
     return [len(text)] + text
@@ -154,3 +159,36 @@ def rank(t, u):
         before = before + 1
         book = take_agreeing(told[0], told[1], waiting)
     return [before]
+
+
+def count(t):
+    """How many books agree."""
+    if len(t) > MOST_BYTES:
+        return [-2]
+    told = read_findings(t)
+    if told is None:
+        return [-6]
+    waiting = [[]]
+    found = 0
+    while take_agreeing(told[0], told[1], waiting) != []:
+        found = found + 1
+    return [found]
+
+
+def sure(t, f):
+    """2 if f is certain, 1 if it's possible, 0 if neither; -5 if no book agrees."""
+    if len(t) > MOST_BYTES or len(f) > MOST_BYTES:
+        return [-2]
+    told = read_findings(t)
+    if told is None:
+        return [-6]
+    finding = read_finding(told[0], f)
+    if finding is None:
+        return [-3]
+    may_hold = some_agrees(told[0], told[1] + [finding])
+    may_fail = some_agrees(told[0], told[1] + [opposite(finding)])
+    if not may_hold and not may_fail:
+        return [-5]
+    if not may_fail:
+        return [2]
+    return [1] if may_hold else [0]

@@ -149,6 +149,17 @@ def agreeing(n, findings):
     return [book for book, bit in zip(all_books(n), reversed(bits)) if bit == "1"]
 
 
+def certainty(n, findings, f):
+    """How sure f is: 2, 1, 0; -5 if no book agrees."""
+    bits = bits_of_agreeing(n, findings)
+    held = bits & holding(n, f)
+    if bits == 0:
+        return -5
+    if held == bits:
+        return 2
+    return 1 if held else 0
+
+
 def text_of(n, findings):
     return to_bytes("".join(line + "\n" for line in [str(n)] + list(findings)))
 

@@ -1,8 +1,8 @@
-"""D1, D4 and D6 as far as they show in first, after, nth and rank."""
+"""D1, D2, D4 and D6 as far as they show in first, after, nth, rank, count and sure."""
 import unittest
 
 import oracle
-from boundagain.books import after, first, nth, rank
+from boundagain.books import after, count, first, nth, rank, sure
 from test_books_that_agree import chain
 
 
@@ -26,9 +26,34 @@ class D1(unittest.TestCase):
             for findings in oracle.drawn_texts(220 + n, n, 4, times):
                 t = oracle.text_of(n, findings)
                 found = chain(t)
+                self.assertEqual(count(t), [len(found)])
                 self.assertEqual([nth(k, t) for k in range(len(found) + 1)],
                                  [oracle.answer(book) for book in found] + [[-4]])
                 self.assertEqual([rank(t, oracle.to_bytes(book)) for book in found], [[k] for k in range(len(found))])
+
+
+def denied(f):
+    return f[2:] if f.startswith("! ") else "! " + f
+
+
+class D2(unittest.TestCase):
+    def check(self, n, findings, f):
+        t = oracle.text_of(n, findings)
+        many = count(t)[0]
+        held = count(oracle.text_of(n, findings + [f]))[0]
+        told = sure(t, oracle.to_bytes(f))
+        if many == 0:
+            self.assertEqual(told, [-5], (findings, f))
+        else:
+            self.assertEqual(told, [2 if held == many else 1 if held > 0 else 0], (findings, f))
+            self.assertEqual(sure(t, oracle.to_bytes(denied(f))) == [2], told == [0], (findings, f))
+            self.assertEqual(sure(t, oracle.to_bytes(denied(f))), [2 - told[0]], (findings, f))
+
+    def test_certain_of_all_possible_of_some(self):
+        for n, times, every in ((1, 10, 1), (2, 20, 3), (3, 20, 9), (4, 3, 50)):
+            for findings in oracle.drawn_texts(250 + n, n, 4, times):
+                for f in oracle.all_findings(n)[len(findings)::every]:
+                    self.check(n, findings, f)
 
 
 class D4(unittest.TestCase):
@@ -48,6 +73,21 @@ class D4(unittest.TestCase):
                     before = [rank(oracle.text_of(n, findings[:k]), oracle.to_bytes(u)) for k in range(len(findings) + 1)]
                     self.assertEqual(before, sorted(before, reverse=True), findings)
 
+    def test_with_a_finding_more_the_count_is_no_more(self):
+        for n, times in ((1, 20), (2, 60), (3, 60), (4, 15)):
+            for findings in oracle.drawn_texts(330 + n, n, 6, times):
+                told = [count(oracle.text_of(n, findings[:k])) for k in range(len(findings) + 1)]
+                self.assertEqual(told, sorted(told, reverse=True), findings)
+
+    def test_what_is_certain_stays_so(self):
+        for n, times, every in ((1, 20, 1), (2, 40, 5), (3, 40, 23), (4, 3, 111)):
+            for findings in oracle.drawn_texts(340 + n, n, 5, times):
+                for f in oracle.all_findings(n)[len(findings)::every]:
+                    told = [sure(oracle.text_of(n, findings[:k]), oracle.to_bytes(f)) for k in range(len(findings) + 1)]
+                    for before, behind in zip(told, told[1:]):
+                        if before in ([0], [2], [-5]):
+                            self.assertIn(behind, (before, [-5]), (findings, f))
+
     def test_a_finding_and_the_one_with_not_share_out_the_books(self):
         for n in (1, 2, 3):
             for finding in oracle.all_findings(n)[::3]:
@@ -61,10 +101,14 @@ class D4(unittest.TestCase):
             self.assertEqual(chain(oracle.text_of(3, findings)), chain(oracle.text_of(3, findings[::-1])))
 
 
+def turned_text(n, findings):
+    return oracle.text_of(n, [oracle.turned_finding(finding) for finding in findings])
+
+
 class D6(unittest.TestCase):
     def check(self, n, findings):
         found = chain(oracle.text_of(n, findings))
-        turned = chain(oracle.text_of(n, [oracle.turned_finding(finding) for finding in findings]))
+        turned = chain(turned_text(n, findings))
         self.assertEqual(turned, sorted(oracle.turned_book(book) for book in found), findings)
 
     def test_each_finding(self):
@@ -76,6 +120,16 @@ class D6(unittest.TestCase):
         for n, times in ((1, 10), (2, 40), (3, 60), (4, 10)):
             for findings in oracle.drawn_texts(400 + n, n, 4, times):
                 self.check(n, findings)
+
+    def test_count_and_sure(self):
+        for n, times, every in ((1, 10, 1), (2, 40, 5), (3, 60, 17), (4, 5, 111)):
+            for findings in oracle.drawn_texts(410 + n, n, 4, times):
+                t = oracle.text_of(n, findings)
+                turned = turned_text(n, findings)
+                self.assertEqual(count(t), count(turned), findings)
+                for f in oracle.all_findings(n)[len(findings)::every]:
+                    line = oracle.to_bytes(oracle.turned_finding(f))
+                    self.assertEqual(sure(t, oracle.to_bytes(f)), sure(turned, line), (findings, f))
 
     def test_a_turned_book_is_the_one_behind_some_book(self):
         t = oracle.text_of(2, [])
