@@ -99,9 +99,61 @@ def some_agrees(n, findings):
     return take_agreeing(n, findings, [[]]) != []
 
 
+def speaking_against(book, findings):
+    """The numbers, from 1, of the findings that don't hold of the book."""
+    return [k + 1 for k in range(len(findings)) if not agrees(book, [findings[k]])]
+
+
+def all_against(n, findings, given):
+    """What speaks against each book that agrees with what is given, as tuples of findings' numbers; each tuple once."""
+    against = {}
+    waiting = [[]]
+    book = take_agreeing(n, given, waiting)
+    while book != []:
+        against[tuple(speaking_against(book, findings))] = True
+        book = take_agreeing(n, given, waiting)
+    return list(against)
+
+
+def rules_all_out(row, against):
+    """Whether a finding of the row speaks against each of the books."""
+    for numbers in against:
+        if not any([number in row for number in numbers]):
+            return False
+    return True
+
+
+def longer_rows(most, rows):
+    """The rows with one number more, up to most; as these are in order, so are those."""
+    longer = []
+    for row in rows:
+        last = row[-1] if row != [] else 0
+        for number in range(last + 1, most + 1):
+            longer.append(row + [number])
+    return longer
+
+
+def fewest_against(most, against):
+    """The first of the shortest rows of numbers up to most that rules all books out.
+
+    Something must speak against each of the books: then the row of all does.
+    """
+    rows = [[]]
+    while rows != []:
+        for row in rows:
+            if rules_all_out(row, against):
+                return row
+        rows = longer_rows(most, rows)
+    return []
+
+
+def told_row(row):
+    """How many there are, then these."""
+    return [len(row)] + row
+
+
 def told_book(book):
-    text = book_text(book)
-    return [len(text)] + text
+    return told_row(book_text(book))
 
 
 def first(t):
@@ -192,3 +244,35 @@ def sure(t, f):
     if not may_fail:
         return [2]
     return [1] if may_hold else [0]
+
+
+def why(t, f):
+    """The fewest findings from which f follows; -5 if no book agrees, -4 if f isn't certain."""
+    if len(t) > MOST_BYTES or len(f) > MOST_BYTES:
+        return [-2]
+    told = read_findings(t)
+    if told is None:
+        return [-6]
+    finding = read_finding(told[0], f)
+    if finding is None:
+        return [-3]
+    if not some_agrees(told[0], told[1]):
+        return [-5]
+    # f follows from findings if they rule out every book of which it doesn't hold.
+    against = all_against(told[0], told[1], [opposite(finding)])
+    if () in against:
+        return [-4]
+    return told_row(fewest_against(len(told[1]), against))
+
+
+def clash(t):
+    """The fewest findings that clash; 0 alone if some book agrees."""
+    if len(t) > MOST_BYTES:
+        return [-2]
+    told = read_findings(t)
+    if told is None:
+        return [-6]
+    against = all_against(told[0], told[1], [])
+    if () in against:
+        return [0]
+    return told_row(fewest_against(len(told[1]), against))

@@ -160,6 +160,29 @@ def certainty(n, findings, f):
     return 1 if held else 0
 
 
+def first_row(n, findings, books):
+    """The numbers of the fewest findings that none of these books (bits) agrees with; None if some agrees with all."""
+    for size in range(len(findings) + 1):
+        for row in itertools.combinations(range(1, len(findings) + 1), size):
+            if books & bits_of_agreeing(n, [findings[number - 1] for number in row]) == 0:
+                return list(row)
+    return None
+
+
+def reason(n, findings, f):
+    """What why answers."""
+    if bits_of_agreeing(n, findings) == 0:
+        return [-5]
+    row = first_row(n, findings, every_book(n) ^ holding(n, f))
+    return [-4] if row is None else [len(row)] + row
+
+
+def contradiction(n, findings):
+    """What clash answers."""
+    row = first_row(n, findings, every_book(n))
+    return [0] if row is None else [len(row)] + row
+
+
 def text_of(n, findings):
     return to_bytes("".join(line + "\n" for line in [str(n)] + list(findings)))
 
@@ -202,6 +225,18 @@ def some_findings(source, n, most):
 def drawn_texts(seed, n, most, times):
     source = random.Random(seed)
     return [some_findings(source, n, most) for _ in range(times)]
+
+
+def true_texts(seed, n, many, times):
+    """Rows of so many findings, each row true of some book, drawn by kind."""
+    source = random.Random(seed)
+    kinds = [kind for kind in plain_findings(n).values() if kind]
+    rows = []
+    for _ in range(times):
+        look = look_at(source.choice(all_books(n)))
+        plain = [source.choice(source.choice(kinds)) for _ in range(many)]
+        rows.append([finding if holds(finding, look) else "! " + finding for finding in plain])
+    return rows
 
 
 def rises(words):

@@ -8,15 +8,17 @@ import unittest
 import boundagain.agreement
 import boundagain.books
 import oracle
-from boundagain.books import after, count, first, nth, rank, sure
+from boundagain.books import after, clash, count, first, nth, rank, sure, why
 
-TEXTS = ["", "1\n", "1\n1a ^\n1b ^\n", "2\n1 < 2\n", "3\n! 1 = 2\no 1 3\nh 1a 2b\n", "4\n1a > 3b\n", "4\n1 < 1\n", "x" * 8193]
+TEXTS = ["", "1\n", "1\n1a ^\n1b ^\n", "2\n1 < 2\n", "3\n! 1 = 2\no 1 3\nh 1a 2b\n", "4\n1a > 3b\n", "4\n1 < 1\n",
+         "x" * 8193]
 BOOKS = ["", "1a", "1b", "(1a 2a)", "2b 1b", "1a / 2b / 3a", "(1a (2b 3a) 4b)", "4b 3b 2b 1b", "1a)", "y" * 8193]
 LINES = ["", "1a ^", "! 1b ^", "1a > 2b", "1 = 2", "o 1 3", "h 1b 3a", "4 < 1", "! ! 1a ^", "1 < 2\n", "z" * 8193]
 NUMBERS = [0, 1, 5, 2147483647]
 
 # The names, the order of the arguments and what else is handed in beside t.
-FUNCTIONS = [(first, "t"), (after, "tu"), (nth, "kt"), (rank, "tu"), (count, "t"), (sure, "tf")]
+FUNCTIONS = [(first, "t"), (after, "tu"), (nth, "kt"), (rank, "tu"), (count, "t"), (sure, "tf"), (why, "tf"),
+             (clash, "t")]
 TELL_BOOKS = (first, after, nth)
 OTHERS = {"u": [oracle.to_bytes(book) for book in BOOKS], "f": [oracle.to_bytes(line) for line in LINES], "k": NUMBERS}
 
@@ -114,6 +116,8 @@ class Answers(unittest.TestCase):
         self.assertEqual(rank(t=t, u=u), [1])
         self.assertEqual(count(t=t), [2])
         self.assertEqual(sure(t=t, f=oracle.to_bytes("1a ^")), [1])
+        self.assertEqual(why(t=t, f=oracle.to_bytes("1 = 0")), [0])
+        self.assertEqual(clash(t=oracle.to_bytes("1\n! 1 = 0\n")), [1, 1])
 
 
 if __name__ == "__main__":

@@ -1,8 +1,9 @@
-"""D1, D2, D4 and D6 as far as they show in first, after, nth, rank, count and sure."""
+"""D1 to D4 and D6 as far as they show in first, after, nth, rank, count, sure, why and clash."""
+import random
 import unittest
 
 import oracle
-from boundagain.books import after, count, first, nth, rank, sure
+from boundagain.books import after, clash, count, first, nth, rank, sure, why
 from test_books_that_agree import chain
 
 
@@ -56,6 +57,48 @@ class D2(unittest.TestCase):
                     self.check(n, findings, f)
 
 
+def chosen(findings, row):
+    return [findings[number - 1] for number in row]
+
+
+def without_one(row):
+    return [row[:k] + row[k + 1:] for k in range(len(row))]
+
+
+class D3(unittest.TestCase):
+    def check_row(self, findings, told):
+        self.assertEqual(len(told), 1 + told[0])
+        self.assertEqual(told[1:], sorted(set(told[1:])))
+        self.assertLessEqual(set(told[1:]), set(range(1, len(findings) + 1)))
+
+    def test_what_is_told_to_follow_follows_and_from_no_fewer(self):
+        source = random.Random(8)
+        for n, times in ((1, 10), (2, 30), (3, 40)):
+            for findings in oracle.true_texts(260 + n, n, 7, times):
+                for f in source.sample(oracle.all_findings(n), 6):
+                    told = why(oracle.text_of(n, findings), oracle.to_bytes(f))
+                    if told == [-4]:
+                        self.assertNotEqual(sure(oracle.text_of(n, findings), oracle.to_bytes(f)), [2])
+                        continue
+                    self.check_row(findings, told)
+                    row = told[1:]
+                    self.assertEqual(sure(oracle.text_of(n, chosen(findings, row)), oracle.to_bytes(f)), [2])
+                    for fewer in without_one(row):
+                        self.assertNotEqual(sure(oracle.text_of(n, chosen(findings, fewer)), oracle.to_bytes(f)), [2])
+
+    def test_what_clashes_clashes_and_none_can_be_left_out(self):
+        for n, times in ((1, 30), (2, 100), (3, 100)):
+            for findings in oracle.drawn_texts(270 + n, n, 8, times):
+                told = clash(oracle.text_of(n, findings))
+                self.check_row(findings, told)
+                if told == [0]:
+                    self.assertNotEqual(first(oracle.text_of(n, findings)), [0])
+                    continue
+                self.assertEqual(count(oracle.text_of(n, chosen(findings, told[1:]))), [0])
+                for fewer in without_one(told[1:]):
+                    self.assertNotEqual(count(oracle.text_of(n, chosen(findings, fewer))), [0])
+
+
 class D4(unittest.TestCase):
     def test_with_a_finding_more_no_more_books(self):
         for n, times in ((1, 10), (2, 40), (3, 40), (4, 6)):
@@ -70,7 +113,8 @@ class D4(unittest.TestCase):
         for n, times in ((1, 10), (2, 20), (3, 20), (4, 5)):
             for findings in oracle.drawn_texts(320 + n, n, 4, times):
                 for u in oracle.all_books(n)[::len(oracle.all_books(n)) // 2]:
-                    before = [rank(oracle.text_of(n, findings[:k]), oracle.to_bytes(u)) for k in range(len(findings) + 1)]
+                    before = [rank(oracle.text_of(n, findings[:k]), oracle.to_bytes(u))
+                              for k in range(len(findings) + 1)]
                     self.assertEqual(before, sorted(before, reverse=True), findings)
 
     def test_with_a_finding_more_the_count_is_no_more(self):
@@ -87,6 +131,23 @@ class D4(unittest.TestCase):
                     for before, behind in zip(told, told[1:]):
                         if before in ([0], [2], [-5]):
                             self.assertIn(behind, (before, [-5]), (findings, f))
+
+    def test_what_follows_and_clashes_stays_so(self):
+        for n, times in ((1, 20), (2, 30), (3, 30)):
+            for findings in oracle.drawn_texts(350 + n, n, 8, times):
+                texts = [oracle.text_of(n, findings[:k]) for k in range(len(findings) + 1)]
+                rows = [clash(t) for t in texts]
+                for before, behind in zip(rows, rows[1:]):
+                    if before != [0]:
+                        self.assertLessEqual(1, behind[0], findings)
+                        self.assertLessEqual(behind[0], before[0], findings)
+                for f in findings[:2]:
+                    rows = [why(t, oracle.to_bytes(f)) for t in texts]
+                    for before, behind in zip(rows, rows[1:]):
+                        if before[0] >= 0 and behind != [-5]:
+                            self.assertIn(behind[0], range(before[0] + 1), findings)
+                        if before == [-5]:
+                            self.assertEqual(behind, [-5])
 
     def test_a_finding_and_the_one_with_not_share_out_the_books(self):
         for n in (1, 2, 3):
@@ -130,6 +191,16 @@ class D6(unittest.TestCase):
                 for f in oracle.all_findings(n)[len(findings)::every]:
                     line = oracle.to_bytes(oracle.turned_finding(f))
                     self.assertEqual(sure(t, oracle.to_bytes(f)), sure(turned, line), (findings, f))
+
+    def test_why_and_clash(self):
+        for n, times in ((1, 10), (2, 40), (3, 40)):
+            for findings in oracle.drawn_texts(420 + n, n, 8, times) + oracle.true_texts(430 + n, n, 6, times):
+                t = oracle.text_of(n, findings)
+                turned = turned_text(n, findings)
+                self.assertEqual(clash(t), clash(turned), findings)
+                for f in oracle.all_findings(n)[len(findings)::37] + findings[:1]:
+                    line = oracle.to_bytes(oracle.turned_finding(f))
+                    self.assertEqual(why(t, oracle.to_bytes(f)), why(turned, line), (findings, f))
 
     def test_a_turned_book_is_the_one_behind_some_book(self):
         t = oracle.text_of(2, [])
