@@ -3,7 +3,7 @@
 What a side, a book and a finding are here, boundagain/agreement.py tells.
 """
 from boundagain.agreement import ALONE, CLOSES, MOST_BYTES, OPENS
-from boundagain.agreement import agrees, book_text, opposite, read_finding, read_findings
+from boundagain.agreement import agrees, book_text, opposite, partners_of_leaves, read_finding, read_findings
 
 
 def free_fronts(n, book):
@@ -147,6 +147,24 @@ def fewest_against(most, against):
     return []
 
 
+def lie_of_leaf(book, leaf):
+    """Its place, its partner (0: it is alone), the side in front (0 side a, 1 side b)."""
+    fronts = [front for starts, front, sign in book if front // 2 == leaf]
+    leaves = [front // 2 for starts, front, sign in book]
+    return (leaves.index(leaf), partners_of_leaves(book)[leaf], fronts[0] % 2)
+
+
+def all_lies_of_leaf(n, findings, leaf):
+    """How it lies in the books that agree, each lie once."""
+    lies = {}
+    waiting = [[]]
+    book = take_agreeing(n, findings, waiting)
+    while book != []:
+        lies[lie_of_leaf(book, leaf)] = True
+        book = take_agreeing(n, findings, waiting)
+    return list(lies)
+
+
 def told_row(row):
     """How many there are, then these."""
     return [len(row)] + row
@@ -276,3 +294,21 @@ def clash(t):
     if () in against:
         return [0]
     return told_row(fewest_against(len(told[1]), against))
+
+
+def where(l, t):
+    """The places, the partners and the sides in front that leaf l may have; -5 if no book agrees."""
+    if len(t) > MOST_BYTES:
+        return [-2]
+    told = read_findings(t)
+    if told is None:
+        return [-6]
+    if l < 1 or l > told[0]:
+        return [-4]
+    lies = all_lies_of_leaf(told[0], told[1], l)
+    if lies == []:
+        return [-5]
+    places = sorted(set([place for place, partner, side in lies]))
+    partners = sorted(set([partner for place, partner, side in lies]))
+    sides = sorted(set([side for place, partner, side in lies]))
+    return told_row(places) + told_row(partners) + told_row(sides)

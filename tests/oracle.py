@@ -183,6 +183,25 @@ def contradiction(n, findings):
     return [0] if row is None else [len(row)] + row
 
 
+def counted(numbers):
+    numbers = sorted(set(numbers))
+    return [len(numbers)] + numbers
+
+
+def whereabouts(n, findings, leaf):
+    """What where answers of a leaf that there is."""
+    looks = [look_at(book) for book in agreeing(n, findings)]
+    if not looks:
+        return [-5]
+    number = str(leaf)
+    partners = []
+    for look in looks:
+        others = [other for pair in look.pairs if number in pair for other in pair if other != number]
+        partners.append(int(others[0]) if others else 0)
+    return (counted(look.order.index(number) for look in looks) + counted(partners)
+            + counted("ab".index(side[-1]) for look in looks for side in look.sides[0::2] if side[:-1] == number))
+
+
 def text_of(n, findings):
     return to_bytes("".join(line + "\n" for line in [str(n)] + list(findings)))
 

@@ -8,7 +8,7 @@ import unittest
 import boundagain.agreement
 import boundagain.books
 import oracle
-from boundagain.books import after, clash, count, first, nth, rank, sure, why
+from boundagain.books import after, clash, count, first, nth, rank, sure, where, why
 
 TEXTS = ["", "1\n", "1\n1a ^\n1b ^\n", "2\n1 < 2\n", "3\n! 1 = 2\no 1 3\nh 1a 2b\n", "4\n1a > 3b\n", "4\n1 < 1\n",
          "x" * 8193]
@@ -18,9 +18,10 @@ NUMBERS = [0, 1, 5, 2147483647]
 
 # The names, the order of the arguments and what else is handed in beside t.
 FUNCTIONS = [(first, "t"), (after, "tu"), (nth, "kt"), (rank, "tu"), (count, "t"), (sure, "tf"), (why, "tf"),
-             (clash, "t")]
+             (clash, "t"), (where, "lt")]
 TELL_BOOKS = (first, after, nth)
-OTHERS = {"u": [oracle.to_bytes(book) for book in BOOKS], "f": [oracle.to_bytes(line) for line in LINES], "k": NUMBERS}
+OTHERS = {"u": [oracle.to_bytes(book) for book in BOOKS], "f": [oracle.to_bytes(line) for line in LINES], "k": NUMBERS,
+          "l": NUMBERS}
 
 
 def all_calls():
@@ -50,7 +51,7 @@ class HandedIn(unittest.TestCase):
     def test_one_list_for_both(self):
         for function, names in FUNCTIONS:
             t = oracle.to_bytes("2\n")
-            if len(names) == 2 and "k" not in names:
+            if names in ("tu", "tf"):
                 self.assertEqual(function(t, t), [-3])
                 self.assertEqual(t, oracle.to_bytes("2\n"))
 
@@ -118,6 +119,7 @@ class Answers(unittest.TestCase):
         self.assertEqual(sure(t=t, f=oracle.to_bytes("1a ^")), [1])
         self.assertEqual(why(t=t, f=oracle.to_bytes("1 = 0")), [0])
         self.assertEqual(clash(t=oracle.to_bytes("1\n! 1 = 0\n")), [1, 1])
+        self.assertEqual(where(l=1, t=t), [1, 0, 1, 0, 2, 0, 1])
 
 
 if __name__ == "__main__":

@@ -1,9 +1,9 @@
-"""D1 to D4 and D6 as far as they show in first, after, nth, rank, count, sure, why and clash."""
+"""D1 to D6, of the answers of all nine calls."""
 import random
 import unittest
 
 import oracle
-from boundagain.books import after, clash, count, first, nth, rank, sure, why
+from boundagain.books import after, clash, count, first, nth, rank, sure, where, why
 from test_books_that_agree import chain
 
 
@@ -162,6 +162,63 @@ class D4(unittest.TestCase):
             self.assertEqual(chain(oracle.text_of(3, findings)), chain(oracle.text_of(3, findings[::-1])))
 
 
+def told_where(leaf, t):
+    """The places, partners and sides that where tells, or None for a refusal."""
+    told = where(leaf, t)
+    if told[0] < 0:
+        return None
+    rows = []
+    while told:
+        rows.append(told[1:1 + told[0]])
+        told = told[1 + told[0]:]
+    return rows
+
+
+class D5(unittest.TestCase):
+    def check(self, n, findings):
+        t = oracle.text_of(n, findings)
+        looks = [oracle.look_at(book) for book in chain(t)]
+        for leaf in range(1, n + 1):
+            number = str(leaf)
+            told = told_where(leaf, t)
+            if not looks:
+                self.assertIsNone(told)
+                continue
+            places, partners, sides = told
+            self.assertEqual(places, sorted({look.order.index(number) for look in looks}), findings)
+            self.assertEqual(sides, sorted({int(number + "b" in look.sides[0::2]) for look in looks}), findings)
+            for other in range(n + 1):
+                if other != leaf:
+                    possible = sure(t, oracle.to_bytes(f"{leaf} = {other}"))[0] > 0
+                    self.assertEqual(other in partners, possible, (findings, leaf, other))
+            self.assertEqual(partners, sorted(set(partners) - {leaf}))
+
+    def test_of_all_and_of_no_other(self):
+        for n, times in ((1, 20), (2, 60), (3, 60)):
+            for findings in oracle.drawn_texts(360 + n, n, 5, times):
+                self.check(n, findings)
+        for findings in (["1b > 2a", "2 = 4"], ["o 1 2 3", "3 < 2", "4 = 1"], ["1 < 2", "! 1 < 2"]):
+            self.check(4, findings)
+
+    def test_sides_are_as_sure_tells_them(self):
+        for n, times in ((1, 20), (2, 40), (3, 40), (4, 5)):
+            for findings in oracle.true_texts(370 + n, n, 4, times):
+                t = oracle.text_of(n, findings)
+                for leaf in range(1, n + 1):
+                    fronts = [k for k in (0, 1) if sure(t, oracle.to_bytes(f"{leaf}{'ab'[k]} ^"))[0] > 0]
+                    self.assertEqual(told_where(leaf, t)[2], fronts, (findings, leaf))
+
+    def test_with_a_finding_more_no_more_is_told(self):
+        for n, times in ((1, 10), (2, 30), (3, 30), (4, 5)):
+            for findings in oracle.drawn_texts(380 + n, n, 5, times):
+                for leaf in range(1, n + 1):
+                    told = [told_where(leaf, oracle.text_of(n, findings[:k])) for k in range(len(findings) + 1)]
+                    for before, behind in zip(told, told[1:]):
+                        for row, later in zip(before or [], behind or []):
+                            self.assertLessEqual(set(later), set(row), findings)
+                        self.assertFalse(before is None and behind is not None, findings)
+
+
 def turned_text(n, findings):
     return oracle.text_of(n, [oracle.turned_finding(finding) for finding in findings])
 
@@ -202,6 +259,29 @@ class D6(unittest.TestCase):
                     line = oracle.to_bytes(oracle.turned_finding(f))
                     self.assertEqual(why(t, oracle.to_bytes(f)), why(turned, line), (findings, f))
 
+    def test_nth_and_rank(self):
+        for n, times in ((1, 10), (2, 20), (3, 10)):
+            for findings in oracle.drawn_texts(440 + n, n, 4, times):
+                t = oracle.text_of(n, findings)
+                turned = turned_text(n, findings)
+                books = [oracle.turned_book(oracle.to_text(nth(k, t)[1:])) for k in range(count(t)[0])]
+                for k, book in enumerate(sorted(books)):
+                    self.assertEqual(nth(k, turned), oracle.answer(book), findings)
+                    self.assertEqual(rank(turned, oracle.to_bytes(book)), [k], findings)
+
+    def test_where(self):
+        for n, times in ((1, 20), (2, 60), (3, 80), (4, 8)):
+            for findings in oracle.drawn_texts(450 + n, n, 4, times):
+                t = oracle.text_of(n, findings)
+                turned = turned_text(n, findings)
+                for leaf in range(1, n + 1):
+                    told = told_where(leaf, t)
+                    if told is not None:
+                        places = sorted(n - 1 - place for place in told[0])
+                        told = [places, told[1], sorted(1 - side for side in told[2])]
+                    self.assertEqual(told_where(leaf, turned), told, findings)
+                self.assertEqual([where(leaf, turned) for leaf in (0, n + 1)], [[-4], [-4]])
+
     def test_a_turned_book_is_the_one_behind_some_book(self):
         t = oracle.text_of(2, [])
         books = list(oracle.all_books(2))
@@ -209,6 +289,47 @@ class D6(unittest.TestCase):
             self.assertIn(oracle.turned_book(book), books)
             self.assertEqual(after(t, oracle.to_bytes(before)), oracle.answer(book))
         self.assertEqual(first(t), oracle.answer(books[0]))
+
+
+class AllTogether(unittest.TestCase):
+    """The nine calls of one text, one held against the others."""
+
+    def check(self, n, findings, fs):
+        t = oracle.text_of(n, findings)
+        found = chain(t)
+        self.assertEqual(count(t), [len(found)])
+        for k in {0, len(found) // 2, max(len(found) - 1, 0)}:
+            self.assertEqual(nth(k, t), oracle.answer(found[k]) if found else [-4])
+        self.assertEqual(nth(len(found), t), [-4])
+        for u in found[:1] + found[-1:]:
+            self.assertEqual(nth(rank(t, oracle.to_bytes(u))[0], t), oracle.answer(u))
+        self.assertEqual(clash(t) == [0], found != [])
+        for f in fs:
+            self.check_finding(n, findings, found, f)
+        for leaf in range(1, n + 1):
+            self.assertEqual(where(leaf, t) == [-5], found == [])
+
+    def check_finding(self, n, findings, found, f):
+        t = oracle.text_of(n, findings)
+        line = oracle.to_bytes(f)
+        held = count(oracle.text_of(n, findings + [f]))[0]
+        told = sure(t, line)
+        reason = why(t, line)
+        if not found:
+            self.assertEqual((told, reason, held), ([-5], [-5], 0))
+            return
+        self.assertEqual(told, [2 if held == len(found) else 1 if held else 0])
+        self.assertEqual(reason == [-4], told != [2])
+        contrary = clash(oracle.text_of(n, findings + [denied(f)]))
+        self.assertEqual(contrary != [0], told == [2])
+        if told == [2]:
+            # What f follows from clashes with its contrary, and nothing shorter does.
+            self.assertEqual(contrary, [reason[0] + 1] + reason[1:] + [len(findings) + 1])
+
+    def test_texts_of_findings(self):
+        for n, times, every in ((1, 30, 1), (2, 60, 9), (3, 60, 29)):
+            for findings in oracle.drawn_texts(460 + n, n, 7, times) + oracle.true_texts(470 + n, n, 6, times):
+                self.check(n, findings, oracle.all_findings(n)[len(findings)::every])
 
 
 if __name__ == "__main__":

@@ -32,7 +32,8 @@ class Why(Held):
 
     def test_each_finding_of_three_leaves(self):
         for findings in (["1 < 2", "2 < 3", "1a ^", "2a ^", "3a ^"], ["1b > 2a", "! o 2 3"],
-                         ["1 = 3", "2 = 0", "1 < 2"], ["! 1 ~ 2", "! 1 ~ 3", "! 2 ~ 3"], ["h 1a 2b", "1 < 2"], ["1a | 2a", "2a | 3a"]):
+                         ["1 = 3", "2 = 0", "1 < 2"], ["! 1 ~ 2", "! 1 ~ 3", "! 2 ~ 3"],
+                         ["h 1a 2b", "1 < 2"], ["1a | 2a", "2a | 3a"]):
             for f in oracle.all_findings(3):
                 self.check_why(3, findings, f)
 
