@@ -51,7 +51,7 @@ class D2(unittest.TestCase):
             self.assertEqual(sure(t, oracle.to_bytes(denied(f))), [2 - told[0]], (findings, f))
 
     def test_certain_of_all_possible_of_some(self):
-        for n, times, every in ((1, 10, 1), (2, 20, 3), (3, 20, 9), (4, 3, 50)):
+        for n, times, every in ((1, 10, 1), (2, 20, 3), (3, 20, 13), (4, 2, 80)):
             for findings in oracle.drawn_texts(250 + n, n, 4, times):
                 for f in oracle.all_findings(n)[len(findings)::every]:
                     self.check(n, findings, f)
@@ -101,7 +101,7 @@ class D3(unittest.TestCase):
 
 class D4(unittest.TestCase):
     def test_with_a_finding_more_no_more_books(self):
-        for n, times in ((1, 10), (2, 40), (3, 40), (4, 6)):
+        for n, times in ((1, 10), (2, 40), (3, 40), (4, 3)):
             for findings in oracle.drawn_texts(300 + n, n, 5, times):
                 before = set(oracle.all_books(n))
                 for k in range(len(findings) + 1):
@@ -235,7 +235,7 @@ class D6(unittest.TestCase):
                 self.check(n, [finding])
 
     def test_several_findings(self):
-        for n, times in ((1, 10), (2, 40), (3, 60), (4, 10)):
+        for n, times in ((1, 10), (2, 40), (3, 40), (4, 4)):
             for findings in oracle.drawn_texts(400 + n, n, 4, times):
                 self.check(n, findings)
 
@@ -327,7 +327,7 @@ class AllTogether(unittest.TestCase):
             self.assertEqual(contrary, [reason[0] + 1] + reason[1:] + [len(findings) + 1])
 
     def test_texts_of_findings(self):
-        for n, times, every in ((1, 30, 1), (2, 60, 9), (3, 60, 29)):
+        for n, times, every in ((1, 20, 1), (2, 25, 9), (3, 25, 41)):
             for findings in oracle.drawn_texts(460 + n, n, 7, times) + oracle.true_texts(470 + n, n, 6, times):
                 self.check(n, findings, oracle.all_findings(n)[len(findings)::every])
 

@@ -35,12 +35,12 @@ class Ordinary(Held):
                 self.check(2, [one, other])
 
     def test_several_findings(self):
-        for n, times in ((1, 60), (2, 150), (3, 250), (4, 40)):
+        for n, times in ((1, 60), (2, 150), (3, 200), (4, 25)):
             for findings in oracle.drawn_texts(900 + n, n, 6, times):
                 self.check(n, findings)
 
     def test_findings_true_of_a_book(self):
-        for n, times in ((1, 20), (2, 80), (3, 120), (4, 20)):
+        for n, times in ((1, 20), (2, 80), (3, 100), (4, 8)):
             for many in (3, 8):
                 for findings in oracle.true_texts(910 + n, n, many, times):
                     self.check(n, findings)
